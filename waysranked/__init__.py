@@ -1,0 +1,1 @@
+"""Waysranked: the so many least ways, with papers."""
