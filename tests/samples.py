@@ -1,5 +1,7 @@
 """Nets and things that several tests hand in."""
 
+import inspect
+
 # Two roads lead from 0 to 1; no road leads from 3; no road leads to or from 4.
 NET = (
     5,
@@ -34,3 +36,50 @@ def odd_things():
         deep(0, lambda held: [held]), deep(0, lambda held: (held,)), deep("a", lambda held: {"b": held}),
         [1, ()], [5, NET[1]], (5, list(NET[1])), {5: NET[1]}, "(1, ())",
     ]
+
+
+class Dice:
+    """Numbers that look thrown and are the same in each run."""
+
+    def __init__(self, seed):
+        self.state = seed * 2654435761 + 12345
+
+    def below(self, many):
+        self.state = (self.state * 6364136223846793005 + 1442695040888963407) % 2 ** 64
+        return (self.state >> 33) % many
+
+
+def made_net(seed, places, roads, costs=99):
+    """A net of so many places and roads, of which none costs more than told; with few costs many ways cost alike."""
+    dice = Dice(seed)
+    made = []
+    while places > 1 and len(made) < roads:
+        one = dice.below(places)
+        other = (one + 1 + dice.below(places - 1)) % places
+        made.append((one, other, 1 + dice.below(costs), dice.below(100)))
+    return (places, tuple(made))
+
+
+def ringed_net(seed, places, roads, costs=99):
+    """A made net whose first roads lead round through all places, so that each can be come to from each."""
+    made = made_net(seed, places, roads, costs)[1]
+    return (places, tuple((at, (at + 1) % places, *made[at][2:]) for at in range(places)) + made[places:])
+
+
+def made_nets():
+    """Nets of one to ten places and none to thirty roads, with few costs and with many."""
+    nets = [(places, ()) for places in (1, 2, 10)] + [NET]
+    for places in range(2, 11):
+        for roads in (1, places, 2 * places, 30):
+            nets.append(made_net(places * 100 + roads, places, roads, 3))
+            nets.append(made_net(places * 200 + roads, places, roads))
+    return nets
+
+
+def parameters(asked):
+    """The parameters of a function: those that may be handed in by place, those by name alone, and what is left out."""
+    told = inspect.signature(asked).parameters.values()
+    by_place = [one.name for one in told if one.kind == one.POSITIONAL_OR_KEYWORD]
+    by_name = [one.name for one in told if one.kind == one.KEYWORD_ONLY]
+    assert len(by_place) + len(by_name) == len(told)
+    return by_place, by_name, {one.name: one.default for one in told if one.default is not one.empty}

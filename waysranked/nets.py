@@ -49,6 +49,13 @@ def check_place(net, thing):
         raise NoPlace("this is no place of the net")
 
 
+def check_ends(net, start, goal):
+    """Refuse what is no net, and then what are no start and no goal in it."""
+    check_net(net)
+    check_place(net, start)
+    check_place(net, goal)
+
+
 def way_of(net, place, thing):
     """Tell (place, cost, time), where a way from the place comes to and what it comes to; None of what is none."""
     check_net(net)
@@ -56,16 +63,24 @@ def way_of(net, place, thing):
     along = places_along(net, place, thing)
     if along is None:
         return None
-    roads = [net[1][number] for number in thing]
-    return along[-1], sum([road[2] for road in roads]), sum([road[3] for road in roads])
+    return along[-1], cost_along(net, thing), sum([net[1][number][3] for number in thing])
 
 
 def is_simple(net, place, thing):
     """Tell whether a thing is a way from the place that is at no place twice."""
     check_net(net)
     check_place(net, place)
-    along = places_along(net, place, thing)
+    return is_at_none_twice(places_along(net, place, thing))
+
+
+def is_at_none_twice(along):
+    """Tell of the places that a way is at, None where there is no way, whether the way is simple."""
     return along is not None and len(set(along)) == len(along)
+
+
+def cost_along(net, way):
+    """Tell what the roads of a way cost together."""
+    return sum([net[1][number][2] for number in way])
 
 
 def places_along(net, place, thing):
