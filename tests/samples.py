@@ -1,6 +1,7 @@
 """Nets and things that several tests hand in."""
 
 import inspect
+import itertools
 
 # Two roads lead from 0 to 1; no road leads from 3; no road leads to or from 4.
 NET = (
@@ -83,3 +84,44 @@ def parameters(asked):
     by_name = [one.name for one in told if one.kind == one.KEYWORD_ONLY]
     assert len(by_place) + len(by_name) == len(told)
     return by_place, by_name, {one.name: one.default for one in told if one.default is not one.empty}
+
+
+def with_part(thing, at, part):
+    """The tuple with another part at its number."""
+    return (*thing[:at], part, *thing[at + 1:])
+
+
+def variants(thing, odds):
+    """The thing with something in it otherwise: at each depth a part out, twice, exchanged, more, or another one."""
+    yield from odds
+    if type(thing) is int:
+        yield from (thing + 1, thing - 1, -1 - thing, thing + 50, True, False)
+    if type(thing) is tuple:
+        yield from (list(thing), thing[::-1], thing * 2, (thing,), thing[1:], dict(enumerate(thing)))
+        yield from ((*thing, odd) for odd in (0, None, (), *thing[:1]))
+        for at, part in enumerate(thing):
+            yield thing[:at] + thing[at + 1:]
+            yield thing[:at] + (part, part) + thing[at + 1:]
+            if at:
+                yield thing[:at - 1] + (part, thing[at - 1]) + thing[at + 1:]
+            for other in variants(part, odds):
+                yield with_part(thing, at, other)
+
+
+def check_refusals(case, asked, rows):
+    """Asked by names with good and bad things together, the bad one furthest to the left is refused.
+
+    Each row is (name, good, bads, kind), in the order of the interface, of which kind tells the refusal of its bads.
+    """
+    choices = [[(name, good, None)] + [(name, bad, kind) for bad in bads] for name, good, bads, kind in rows]
+    for choice in itertools.product(*choices):
+        due = next((kind for _, _, kind in choice if kind is not None), None)
+        handed = {name: thing for name, thing, _ in reversed(choice)}
+        before = repr(handed)
+        if due is None:
+            asked(**handed)
+        else:
+            with case.assertRaises(due, msg=before[:300]) as caught:
+                asked(**handed)
+            case.assertIs(type(caught.exception), due, before[:300])
+        case.assertEqual(repr(handed), before)

@@ -99,6 +99,8 @@ class Form(unittest.TestCase):
                 if isinstance(node, ast.Name) and hasattr(builtins, node.id):
                     self.assertIn(node.id, BUILTINS, (path.name, node.lineno))
                     self.assertIsInstance(node.ctx, ast.Load, (path.name, node.lineno))
+                if isinstance(node, ast.arg):
+                    self.assertFalse(hasattr(builtins, node.arg), (path.name, node.lineno))
 
     def test_plain_names(self):
         for path, _, tree in self.files:

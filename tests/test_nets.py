@@ -5,17 +5,12 @@ import inspect
 import itertools
 import unittest
 
-from samples import NET, odd_things
+from samples import NET, odd_things, with_part
 from waysranked.errors import NoNet, NoPlace
 from waysranked.nets import is_net, is_simple, way_of
 
 ROAD = (0, 1, 1, 0)
 ROUND = ((0, 1, 3, 4), (1, 0, 5, 6))
-
-
-def with_part(thing, at, part):
-    """The tuple with another part at its number."""
-    return (*thing[:at], part, *thing[at + 1:])
 
 
 def with_road(road, *, places=4):

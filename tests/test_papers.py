@@ -5,7 +5,7 @@ import itertools
 import unittest
 
 from reckoning import all_simple, are_priced, beginnings, cost, greatest, looked, paper_for, stops
-from samples import NET, Dice, made_net, made_nets, odd_things, parameters, ringed_net
+from samples import NET, Dice, made_net, made_nets, odd_things, parameters, ringed_net, variants, with_part
 from waysranked.errors import NoMany, NoNet, NoPlace
 from waysranked.papers import paper_of, shown_by
 from waysranked.prices import prices_of
@@ -27,27 +27,6 @@ LADDER = (10, tuple((at, at + 1, 1 + turn, turn) for at in range(9) for turn in 
 
 # A net, a start and a goal with several ways of unlike costs.
 MIXED = (made_net(8, 6, 14, 9), 1, 3)
-
-
-def with_part(thing, at, part):
-    return (*thing[:at], part, *thing[at + 1:])
-
-
-def variants(thing, odds):
-    """The thing with something in it otherwise: at each depth a part out, twice, exchanged, more, or another one."""
-    yield from odds
-    if type(thing) is int:
-        yield from (thing + 1, thing - 1, -1 - thing, thing + 50, True, False)
-    if type(thing) is tuple:
-        yield from (list(thing), thing[::-1], thing * 2, (thing,), thing[1:], dict(enumerate(thing)))
-        yield from ((*thing, odd) for odd in (0, None, (), *thing[:1]))
-        for at, part in enumerate(thing):
-            yield thing[:at] + thing[at + 1:]
-            yield thing[:at] + (part, part) + thing[at + 1:]
-            if at:
-                yield thing[:at - 1] + (part, thing[at - 1]) + thing[at + 1:]
-            for other in variants(part, odds):
-                yield with_part(thing, at, other)
 
 
 class Looked(unittest.TestCase):

@@ -5,7 +5,7 @@ import itertools
 import unittest
 
 from reckoning import all_simple, are_priced, cost, greatest
-from samples import NET, made_net, made_nets, odd_things, parameters
+from samples import NET, made_net, made_nets, odd_things, parameters, with_part
 from waysranked.errors import NoNet, NoPlace, NoShut
 from waysranked.prices import are_prices, prices_of
 
@@ -24,10 +24,6 @@ def shuts(net, goal):
     others = [place for place in range(net[0]) if place != goal]
     told = [(), tuple(others), tuple(others[::2]), tuple(others[1::3]), tuple(others[:-1])]
     return list(dict.fromkeys(told + [(place,) for place in others]))
-
-
-def with_part(thing, at, part):
-    return (*thing[:at], part, *thing[at + 1:])
 
 
 class Greatest(unittest.TestCase):

@@ -78,6 +78,12 @@ def is_at_none_twice(along):
     return along is not None and len(set(along)) == len(along)
 
 
+def is_simple_between(net, start, goal, thing):
+    """Tell whether a thing is a simple way from the start to the goal."""
+    along = places_along(net, start, thing)
+    return is_at_none_twice(along) and along[-1] == goal
+
+
 def cost_along(net, way):
     """Tell what the roads of a way cost together."""
     return sum([net[1][number][2] for number in way])

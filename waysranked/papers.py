@@ -1,6 +1,6 @@
 """Papers: what shows of told ways that no simple way that is left out costs less."""
 
-from waysranked.nets import check_ends, cost_along, is_at_none_twice, is_tuple_of, places_along
+from waysranked.nets import check_ends, cost_along, is_simple_between, is_tuple_of, places_along
 from waysranked.parts import beginnings_of, shut_by, steps_on
 from waysranked.prices import greatest_prices, prices_hold
 from waysranked.simple import MOST_SIMPLE, least_simple
@@ -42,12 +42,6 @@ def is_told(net, start, goal, thing):
     if not all([is_simple_between(net, start, goal, way) for way in thing]):
         return False
     return is_rising([(cost_along(net, way), way) for way in thing])
-
-
-def is_simple_between(net, start, goal, thing):
-    """Tell whether a thing is a simple way from the start to the goal."""
-    along = places_along(net, start, thing)
-    return is_at_none_twice(along) and along[-1] == goal
 
 
 def is_paper(net, start, goal, told, thing):
