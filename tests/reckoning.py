@@ -150,3 +150,30 @@ def looked(net, start, goal, told, paper):
     if not parts:
         return "all"
     return "least" if told and min(parts) >= cost(net, told[-1]) else None
+
+
+def renet(net, road, price):
+    """The net with a road's cost turned or the road gone."""
+    roads = list(net[1])
+    if price is None:
+        del roads[road]
+    else:
+        roads[road] = (*roads[road][:2], price, roads[road][3])
+    return (net[0], tuple(roads))
+
+
+def renumbered(way, road, price):
+    """A way's new numbers, None where it has the road that is gone."""
+    if price is not None:
+        return way
+    return None if road in way else tuple(number - (number > road) for number in way)
+
+
+def behind(net, start, goal, told, paper, road, price):
+    """What point 61 tells, by the test's own look."""
+    ways = tuple(renumbered(way, road, price) for way in told)
+    if None in ways:
+        return None
+    rows = tuple((renumbered(way, road, price), prices) for way, prices in paper)
+    shown = looked(renet(net, road, price), start, goal, ways, rows)
+    return None if shown is None else (ways, rows, shown)

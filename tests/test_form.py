@@ -102,6 +102,34 @@ class Form(unittest.TestCase):
                 if isinstance(node, ast.arg):
                     self.assertFalse(hasattr(builtins, node.arg), (path.name, node.lineno))
 
+    def test_no_generators(self):
+        # The package has a class with __eq__, so any, all, sorted and the like take lists.
+        for path, _, tree in self.files:
+            for node in ast.walk(tree):
+                self.assertNotIsInstance(node, (ast.GeneratorExp, ast.Yield, ast.YieldFrom, ast.Try), path.name)
+
+    def test_no_local_name_is_a_class_or_an_import(self):
+        for path, _, tree in self.files:
+            barred = {name for _, name in imported(tree)}
+            barred |= {node.name for node in tree.body if isinstance(node, ast.ClassDef)}
+            for node in ast.walk(tree):
+                if isinstance(node, ast.Name) and isinstance(node.ctx, ast.Store):
+                    self.assertNotIn(node.id, barred, (path.name, node.lineno))
+                if isinstance(node, ast.arg):
+                    self.assertNotIn(node.arg, barred, (path.name, node.lineno))
+
+    def test_no_name_is_a_method_and_an_attribute(self):
+        methods, stored = set(), set()
+        for _, _, tree in self.files:
+            for kind in (node for node in tree.body if isinstance(node, ast.ClassDef)):
+                methods |= {node.name for node in kind.body if isinstance(node, ast.FunctionDef)}
+            stored |= {node.attr for node in ast.walk(tree) if isinstance(node, ast.Attribute)
+                       and isinstance(node.ctx, ast.Store)}
+        self.assertFalse(methods & stored)
+        values = ("", 0, [], {}, set(), b"", ())
+        self.assertFalse([name for name in methods | stored if not name.startswith("__")
+                          and any(hasattr(value, name) for value in values)])
+
     def test_plain_names(self):
         for path, _, tree in self.files:
             for node in ast.walk(tree):

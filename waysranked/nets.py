@@ -1,6 +1,6 @@
 """Nets of places and roads, and the ways along their roads."""
 
-from waysranked.errors import NoNet, NoPlace
+from waysranked.errors import NoNet, NoPlace, NoRoad
 from waysranked.wholes import is_within
 
 MOST_PLACES = 10
@@ -47,6 +47,17 @@ def check_place(net, thing):
     """Refuse what is no place of the net."""
     if not is_within(thing, 0, net[0] - 1):
         raise NoPlace("this is no place of the net")
+
+
+def is_road_of(net, thing):
+    """Tell whether a thing is the number of a road of the net."""
+    return is_within(thing, 0, len(net[1]) - 1)
+
+
+def check_road(net, thing):
+    """Refuse what is no road of the net."""
+    if not is_road_of(net, thing):
+        raise NoRoad("this is no road of the net")
 
 
 def check_ends(net, start, goal):
@@ -97,7 +108,7 @@ def places_along(net, place, thing):
     along = [place]
     for number in thing:
         # A number below 0 would count from the last road in Python.
-        if not is_within(number, 0, len(roads) - 1):
+        if not is_road_of(net, number):
             return None
         if roads[number][0] != along[-1]:
             return None
